@@ -1,0 +1,1 @@
+"""Jarcards: orders over jars, followed as they stand or run as cards."""
