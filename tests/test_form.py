@@ -109,6 +109,42 @@ class Form(unittest.TestCase):
             if isinstance(node, ast.Call) and isinstance(node.func, ast.Attribute):
                 self.assertIn(node.func.attr, known, place)
 
+    def test_no_name_is_a_method_here_and_a_value_there(self):
+        methods, values = set(), set()
+        for place, node in nodes():
+            if isinstance(node, ast.ClassDef):
+                methods.update(inner.name for inner in node.body if isinstance(inner, ast.FunctionDef))
+            if isinstance(node, ast.Attribute) and isinstance(node.ctx, ast.Store):
+                values.add(node.attr)
+        self.assertEqual(methods & values, set())
+        kinds = (str, int, list, dict, set, bytes, tuple)
+        self.assertEqual({word for word in methods | values if any(hasattr(kind, word) for kind in kinds)}, {"__init__"})
+
+    def test_no_local_is_called_like_a_class_or_an_import(self):
+        for file, tree in trees():
+            taken = {node.name for node in tree.body if isinstance(node, ast.ClassDef)}
+            for node in tree.body:
+                if isinstance(node, ast.ImportFrom):
+                    taken.update(alias.asname or alias.name for alias in node.names)
+            for node in ast.walk(tree):
+                if isinstance(node, ast.arg):
+                    self.assertNotIn(node.arg, taken, file)
+                if isinstance(node, ast.Name) and isinstance(node.ctx, ast.Store):
+                    self.assertNotIn(node.id, taken, file)
+
+    def test_files_draw_from_those_that_define_and_never_in_a_ring(self):
+        own = {file[:-3]: {node.name for node in tree.body if hasattr(node, "name")} for file, tree in trees()}
+        drawn = {file[:-3]: [node for node in tree.body if isinstance(node, ast.ImportFrom)] for file, tree in trees()}
+        for file in drawn:
+            for node in drawn[file]:
+                self.assertLessEqual({alias.name for alias in node.names}, own[node.module.split(".")[1]], file)
+        left = {file: {node.module.split(".")[1] for node in drawn[file]} for file in drawn}
+        while left:
+            ready = [file for file in left if not left[file] & set(left)]
+            self.assertTrue(ready, left)
+            for file in ready:
+                del left[file]
+
 
 if __name__ == "__main__":
     unittest.main()
